@@ -1,0 +1,1 @@
+"""Proofs, line by line, that two sides can't both hold."""
