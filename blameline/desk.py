@@ -7,6 +7,10 @@ LETTER = 1
 GIVEN = 2
 STEP = 3
 LINE = 4
+WIDTH = 5
+EMPTY = 6
+WRONG = 7
+BLAME = 8
 
 
 class Reader:
@@ -62,6 +66,14 @@ def answer_call(proof, reader):
         return answer_step(proof, reader)
     if call == LINE:
         return answer_line(proof, reader)
+    if call == WIDTH:
+        return [proof.width()]
+    if call == EMPTY:
+        return [proof.first_empty()]
+    if call == WRONG:
+        return [proof.wrong_given(reader.take())]
+    if call == BLAME:
+        return [proof.blamed_side(reader.take())]
     raise ValueError(f"no call has the number {call}")
 
 

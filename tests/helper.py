@@ -4,6 +4,7 @@ from blameline.desk import answers
 
 LOWEST = -2147483648
 HIGHEST = 2147483647
+ALL_TRUE = 2 ** 24 - 1
 
 
 def begin():
@@ -24,6 +25,22 @@ def step(i, j, x):
 
 def line(k, most):
     return [4, k, most]
+
+
+def width():
+    return [5]
+
+
+def empty():
+    return [6]
+
+
+def wrong(v):
+    return [7, v]
+
+
+def blame(v):
+    return [8, v]
 
 
 def joined(calls):
@@ -66,6 +83,7 @@ def last(calls):
 def check_refused(case, before, call, number, lines_shown=range(6)):
     """The call behind `before` is refused with `number`, and all that can be seen is as it was."""
     probes = [line(k, 24) for k in lines_shown]
+    probes += [width(), empty(), wrong(0), blame(0)]
     probes += [given(1), letter(0), letter(1), letter(2)]
     # Whose own a letter is shows by who may speak of it.
     probes += [given(side, 2 * x) for side in (1, 2) for x in range(6)]
